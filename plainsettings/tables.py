@@ -1,6 +1,6 @@
 """What settings, tables' lines and rows' lines do to the tables."""
 
-from plainsettings.kinds import BY_KEYS, BY_LINE, LIST, ON_THE_WAY, TABLE, WRITTEN, empty_list, empty_table
+from plainsettings.kinds import BY_KEYS, BY_LINE, LIST, ON_THE_WAY, WRITTEN, empty_list, empty_table
 from plainsettings.refusals import CannotBe
 
 
@@ -16,11 +16,8 @@ def put_setting(table, keys, value):
 
 def through_setting_key(holder, key):
     """The table that a setting's key, not the last, leads to."""
-    found = holder.content.get(key)
-    if found is None:
-        found = empty_table(BY_KEYS)
-        holder.content[key] = found
-    if found.kind != TABLE or found.origin != BY_KEYS:
+    found = holder.content.setdefault(key, empty_table(BY_KEYS))
+    if found.origin != BY_KEYS:
         raise CannotBe()
     return found
 
@@ -28,24 +25,18 @@ def through_setting_key(holder, key):
 def table_of_line(whole, keys):
     """The table that a table's line stands for."""
     holder = before_last(whole, keys)
-    found = holder.content.get(keys[-1])
-    if found is None:
-        found = empty_table(BY_LINE)
-        holder.content[keys[-1]] = found
-    elif found.origin == ON_THE_WAY:
-        found.origin = BY_LINE
-    else:
+    found = holder.content.setdefault(keys[-1], empty_table(ON_THE_WAY))
+    if found.origin != ON_THE_WAY:
         raise CannotBe()
+    # From now on no other line may stand for it.
+    found.origin = BY_LINE
     return found
 
 
 def row_of_line(whole, keys):
     """The table that a row's line adds."""
     holder = before_last(whole, keys)
-    rows = holder.content.get(keys[-1])
-    if rows is None:
-        rows = empty_list(BY_LINE)
-        holder.content[keys[-1]] = rows
+    rows = holder.content.setdefault(keys[-1], empty_list(BY_LINE))
     if rows.kind != LIST or rows.origin != BY_LINE:
         raise CannotBe()
     row = empty_table(BY_LINE)
@@ -62,10 +53,9 @@ def before_last(whole, keys):
 
 
 def through_line_key(holder, key):
-    found = holder.content.get(key)
-    if found is None:
-        found = empty_table(ON_THE_WAY)
-        holder.content[key] = found
+    """The table that such a line's key, not the last, leads to."""
+    found = holder.content.setdefault(key, empty_table(ON_THE_WAY))
+    # Whatever stands behind an = is of this origin: plain values, lists and braces.
     if found.origin == WRITTEN:
         raise CannotBe()
     if found.kind == LIST:
