@@ -48,3 +48,10 @@ def empty_table(origin):
 
 def empty_list(origin):
     return Value(LIST, [], origin)
+
+
+def count_of(value):
+    """How many bytes, values, rows or keys value has; 1 where it has none of these."""
+    if value.kind == TEXT or value.kind == LIST or value.kind == TABLE:
+        return len(value.content)
+    return 1

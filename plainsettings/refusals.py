@@ -23,3 +23,7 @@ class NoPath(Exception):
 
 class TooLong(Exception):
     """What is told has more bytes than were asked for at most (-6)."""
+
+
+class OtherKind(Exception):
+    """What stands there is of another kind than the call asks for (-7)."""

@@ -1,15 +1,18 @@
 """The calls on one set of settings, and their answers."""
 
-from plainsettings.kinds import BY_LINE, empty_table
+from plainsettings.kinds import BY_LINE, REAL, WHOLE, count_of, empty_table
 from plainsettings.line_reader import split_lines
 from plainsettings.paths import value_at
 from plainsettings.reading import Reading
-from plainsettings.refusals import CannotBe, Malformed, NoPath, NothingThere, TooLarge, TooLong
+from plainsettings.refusals import CannotBe, Malformed, NoPath, NothingThere, OtherKind, TooLarge, TooLong
 from plainsettings.telling import told_once
 
 ST_READ = 0
 ST_TOLD = 1
 ST_KIND = 2
+ST_COUNT = 3
+ST_WHOLE = 4
+ST_REAL = 5
 
 MOST_BYTES = 65536
 MOST_TOLD = 1048576
@@ -44,6 +47,22 @@ class Store:
 
     def st_kind(self, path):
         return [self.value_of(path).kind]
+
+    def st_count(self, path):
+        return [count_of(self.value_of(path))]
+
+    def st_whole(self, path):
+        return [0, self.number_of_kind(path, WHOLE)]
+
+    def st_real(self, path):
+        return [0, self.number_of_kind(path, REAL)]
+
+    def number_of_kind(self, path, kind):
+        """The number, or the bits, at path, which must be of the kind."""
+        value = self.value_of(path)
+        if value.kind != kind:
+            raise OtherKind()
+        return value.content
 
     def value_of(self, path):
         check_at_most(len(path), MOST_BYTES)
@@ -85,6 +104,8 @@ def answer_or_refusal(store, call, most, row):
         return [-5]
     except TooLong:
         return [-6]
+    except OtherKind:
+        return [-7]
 
 
 def answer_of(store, call, most, row):
@@ -95,4 +116,10 @@ def answer_of(store, call, most, row):
         return store.st_told(most, row)
     if call == ST_KIND:
         return store.st_kind(row)
+    if call == ST_COUNT:
+        return store.st_count(row)
+    if call == ST_WHOLE:
+        return store.st_whole(row)
+    if call == ST_REAL:
+        return store.st_real(row)
     raise NotImplementedError("no such call")

@@ -17,6 +17,22 @@ def st_kind(path=b""):
     return [2, len(path), *path]
 
 
+def st_count(path=b""):
+    return [3, len(path), *path]
+
+
+def st_whole(path=b""):
+    return [4, len(path), *path]
+
+
+def st_real(path=b""):
+    return [5, len(path), *path]
+
+
+# The calls that take a path and no other number.
+PATH_CALLS = (st_kind, st_count, st_whole, st_real)
+
+
 def ask(*calls):
     """The answers to the calls on one new set of settings, each a list of its own."""
     given = answers([number for call in calls for number in call])
@@ -46,10 +62,23 @@ def told(text, path=b""):
     return bytes(given[1:])
 
 
+def answer(call, text, path=b""):
+    """What call, one of PATH_CALLS, answers at path once text was read."""
+    done, given = ask(st_read(text), call(path))
+    assert done == [0], (text, done)
+    return given
+
+
 def kind(text, path=b""):
     """What st_kind answers at path once text was read."""
-    done, given = ask(st_read(text), st_kind(path))
-    assert done == [0], (text, done)
+    given = answer(st_kind, text, path)
+    assert len(given) == 1
+    return given[0]
+
+
+def count(text, path=b""):
+    """What st_count answers at path once text was read."""
+    given = answer(st_count, text, path)
     assert len(given) == 1
     return given[0]
 
@@ -63,6 +92,11 @@ def value(written):
     return told(b"v = " + written, b"v")
 
 
+def double_bits(number):
+    """The 64 bits of a float of Python's, as one number."""
+    return struct.unpack(">Q", struct.pack(">d", number))[0]
+
+
 def double_told(number):
     """How a float of Python's is told as a real number."""
-    return b"#%016x" % struct.unpack(">Q", struct.pack(">d", number))[0]
+    return b"#%016x" % double_bits(number)

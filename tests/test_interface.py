@@ -1,8 +1,9 @@
 """The interface: the form of calls and answers, and what is promised around them."""
 
+import itertools
 import unittest
 
-from helper import ask, st_kind, st_read, st_told, told
+from helper import ask, double_bits, st_count, st_kind, st_read, st_real, st_told, st_whole, told
 from plainsettings.store import answers
 
 TEXT = b"a = [1, 'x', {b = 1.5}]\n[t]\nd = 2000-01-01\n[[r]]\ne.f = true\n"
@@ -33,12 +34,37 @@ class Form(unittest.TestCase):
     def test_st_kind(self):
         self.assertEqual(answers([0, 3, *b"a=1", 2, 0, 2, 1, *b"a", 2, 1, *b"b"]), [1, 0, 1, 6, 1, 1, 1, -4])
 
+    def test_st_count(self):
+        self.assertEqual(answers([0, 0, 3, 0]), [1, 0, 1, 0])
+        self.assertEqual(answers([0, 6, *b"a='xy'", 3, 0, 3, 1, *b"a", 3, 1, *b"b", 3, 1, *b"."]),
+                         [1, 0, 1, 1, 1, 2, 1, -4, 1, -5])
+
+    def test_st_whole(self):
+        self.assertEqual(answers([0, 4, *b"a=-1", 4, 0, 4, 1, *b"a", 4, 1, *b"b", 4, 1, *b"."]),
+                         [1, 0, 1, -7, 2, 0, -1, 1, -4, 1, -5])
+
+    def test_st_real(self):
+        self.assertEqual(answers([0, 6, *b"a=-nan", 5, 0, 5, 1, *b"a", 5, 1, *b"b", 5, 1, *b"."]),
+                         [1, 0, 1, -7, 2, 0, 18444492273895866368, 1, -4, 1, -5])
+
+    def test_all_six_in_any_order(self):
+        asked = {1: st_told(b"a"), 2: st_kind(b"a"), 3: st_count(b"a"), 4: st_whole(b"a"), 5: st_real(b"a")}
+        before = {1: [1, *b"7"], 2: [1], 3: [1], 4: [0, 7], 5: [-7]}
+        behind = {1: [17, *b"#3fe0000000000000"], 2: [2], 3: [1], 4: [-7], 5: [0, double_bits(0.5)]}
+        for order in itertools.permutations(range(6)):
+            place = order.index(0)
+            calls = [asked.get(number, st_read(b"a = 0.5")) for number in order]
+            expected = [before[number] for number in order[:place]] + [[0]] + [behind[number] for number in order[place + 1:]]
+            self.assertEqual(ask(st_read(b"a = 7"), *calls), [[0], *expected], order)
+
     def test_calls_one_behind_another(self):
         self.assertEqual(answers([0, 1, *b"!", 1, 2, 0, 0, 3, *b"a=1", 2, 1, *b"a", 1, 9, 1, *b"."]),
                          [2, -1, 1, 3, 2, *b"{}", 1, 0, 1, 1, 1, -5])
 
     def test_whole_numbers_alone_are_given_back(self):
-        given = answers([number for call in (st_read(TEXT), st_told(), st_kind(b"r.0.e.f")) for number in call])
+        calls = (st_read(TEXT), st_told(), st_kind(b"r.0.e.f"), st_count(), st_count(b"r.0.e.f"), st_whole(b"a.0"),
+                 st_real(b"a.2.b"), st_whole(b"r.0.e.f"), st_real(b"r.0.e.f"))
+        given = answers([number for call in calls for number in call])
         self.assertIs(type(given), list)
         for number in given:
             self.assertIs(type(number), int)
@@ -46,7 +72,9 @@ class Form(unittest.TestCase):
 
 class Kept(unittest.TestCase):
     def calls(self):
-        calls = (st_read(TEXT), st_told(), st_kind(b"a"), st_read(b"!"), st_told(b"x."), st_read(TEXT), st_told(b"r", 3))
+        calls = (st_read(TEXT), st_told(), st_kind(b"a"), st_count(b"a"), st_whole(b"a.0"), st_real(b"a.2.b"), st_read(b"!"),
+                 st_told(b"x."), st_count(), st_whole(), st_real(b"a"), st_read(TEXT), st_told(b"r", 3), st_whole(b"a.1"),
+                 st_real(b"a.0"), st_count(b"a.1"))
         return [number for call in calls for number in call]
 
     def test_what_is_handed_in_is_not_changed(self):

@@ -2,7 +2,7 @@
 
 import unittest
 
-from helper import ask, kind, st_kind, st_read, st_told, told
+from helper import PATH_CALLS, answer, ask, count, kind, st_count, st_kind, st_read, st_real, st_told, st_whole, told
 
 TEXT = b"""
 a.b = 1
@@ -26,16 +26,23 @@ t = 7
 class Paths(unittest.TestCase):
     def leads(self, path, expected):
         self.assertEqual(told(TEXT, path), expected, path)
+        for call in PATH_CALLS:
+            self.assertNotIn(answer(call, TEXT, path)[0], (-3, -4, -5), path)
 
     def refused(self, path, refusal):
         self.assertEqual(told(TEXT, path), refusal, path)
-        self.assertEqual(kind(TEXT, path), refusal, path)
+        for call in PATH_CALLS:
+            self.assertEqual(answer(call, TEXT, path), [refusal], path)
 
     def test_nothing_and_blanks_alone_are_the_whole(self):
         for path in (b"", b" ", b"\t", b" \t \t"):
             self.assertEqual(told(b"a = 1", path), b'{"a":1}')
             self.assertEqual(kind(b"a = 1", path), 6)
+            self.assertEqual(count(b"a = 1\nb = 2", path), 2)
+            self.assertEqual(answer(st_whole, b"a = 1", path), [-7])
+            self.assertEqual(answer(st_real, b"a = 1.0", path), [-7])
             self.assertEqual(told(b"", path), b"{}")
+            self.assertEqual(count(b"", path), 0)
 
     def test_keys(self):
         self.leads(b"a", b'{"b":1}')
@@ -116,8 +123,8 @@ class Paths(unittest.TestCase):
             self.refused(path, -5)
 
     def test_no_path_is_told_even_where_nothing_stands(self):
-        given = ask(st_read(b"!"), st_told(b"x."), st_kind(b"x."), st_kind(b"x"))
-        self.assertEqual(given, [[-1, 1], [-5], [-5], [-4]])
+        given = ask(st_read(b"!"), st_told(b"x."), *[call(b"x.") for call in PATH_CALLS], *[call(b"x") for call in PATH_CALLS])
+        self.assertEqual(given, [[-1, 1], *[[-5]] * 5, *[[-4]] * 4])
 
     def test_32_keys_and_33(self):
         keys = [b"k"] * 32
@@ -125,9 +132,11 @@ class Paths(unittest.TestCase):
         self.assertEqual(told(text, b".".join(keys)), b'{"k":1}')
         self.assertEqual(told(text, b" . ".join(keys)), b'{"k":1}')
         self.assertEqual(told(text, b".".join(keys + [b"k"])), -5)
-        self.assertEqual(kind(text, b".".join(keys + [b"k"])), -5)
-        self.assertEqual(kind(text, b".".join([b"x"] * 32)), -4)
-        self.assertEqual(kind(text, b".".join([b"x"] * 33)), -5)
+        self.assertEqual(count(text, b".".join(keys)), 1)
+        for call in PATH_CALLS:
+            self.assertEqual(answer(call, text, b".".join(keys + [b"k"])), [-5])
+            self.assertEqual(answer(call, text, b".".join([b"x"] * 32)), [-4])
+            self.assertEqual(answer(call, text, b".".join([b"x"] * 33)), [-5])
 
     def test_too_large(self):
         given = ask(st_read(b"a = 1"), st_told(b"a", 1048576), st_told(b"a", 1048577), st_told(b"a", 4294967295),
@@ -136,8 +145,11 @@ class Paths(unittest.TestCase):
 
     def test_more_than_65536_bytes(self):
         long = b"a" + b" " * 65535
-        given = ask(st_read(b"a = 1"), st_told(long), st_kind(long), st_told(long + b" "), st_kind(long + b" "))
-        self.assertEqual(given, [[0], [1, *b"1"], [1], [-3], [-3]])
+        given = ask(st_read(b"a = 1"), st_told(long), st_kind(long), st_count(long), st_whole(long), st_real(long))
+        self.assertEqual(given, [[0], [1, *b"1"], [1], [1], [0, 1], [-7]])
+        longer = long + b" "
+        given = ask(st_read(b"a = 1"), st_told(longer), *[call(longer) for call in PATH_CALLS], st_whole(b"a"))
+        self.assertEqual(given, [[0], *[[-3]] * 5, [0, 1]])
 
 
 if __name__ == "__main__":

@@ -8,7 +8,7 @@ import random
 import re
 import unittest
 
-from helper import ask, double_told, st_kind, st_read, st_told
+from helper import PATH_CALLS, ask, double_told, st_read, st_told
 
 BARE = rb"[A-Za-z0-9_-]+"
 ESCAPED = rb'"(?:[^"\\]|\\(?:[btnfr"\\]|u[0-9A-Fa-f]{4}|U[0-9A-Fa-f]{8}))*"'
@@ -262,6 +262,19 @@ def kind(value):
     return 0 if value[0] == "text" else value[2]
 
 
+def count(value):
+    if isinstance(value, list | Table):
+        return len(value)
+    return len(value[1]) if value[0] == "text" else 1
+
+
+def whole_and_real(value):
+    """What st_whole and st_real answer where value stands."""
+    return [
+        [0, int(value[1])] if kind(value) == 1 else [-7],
+        [0, int(value[1][1:], 16)] if kind(value) == 2 else [-7]]
+
+
 def found_at(value, path):
     """What stands at path, or a refusal."""
     if path.strip(b" \t") == b"":
@@ -282,6 +295,26 @@ def found_at(value, path):
     return value
 
 
+def all_ways(value):
+    """The keys that lead to each value, none (the value itself) among them."""
+    ways = [[]]
+    held = []
+    if isinstance(value, Table):
+        held = [(told_text(key), value[key]) for key in value]
+    elif isinstance(value, list):
+        held = [(b"%d" % number, one) for number, one in enumerate(value)]
+    for key, one in held:
+        ways.extend([[key, *way] for way in all_ways(one)])
+    return [way for way in ways if len(way) <= 32]
+
+
+def first_answers(text, most, paths):
+    calls = []
+    for path in paths:
+        calls.extend([st_told(path, most), *[call(path) for call in PATH_CALLS]])
+    return ask(st_read(text), *calls)
+
+
 def second_answers(text, most, paths):
     whole = whole_of(text)
     given = [whole if isinstance(whole, list) else [0]]
@@ -290,10 +323,11 @@ def second_answers(text, most, paths):
     for path in paths:
         found = found_at(whole, path)
         if isinstance(found, int):
-            given.extend([[found], [found]])
+            given.extend([[found]] * 5)
         else:
             row = told(found)
-            given.extend([[len(row), *row] if len(row) <= most else [-6], [kind(found)]])
+            given.extend([[len(row), *row] if len(row) <= most else [-6], [kind(found)], [count(found)]])
+            given.extend(whole_and_real(found))
     return given
 
 
@@ -380,14 +414,13 @@ class Maker:
 
 class SecondReading(unittest.TestCase):
     def test_both_answer_the_same(self):
-        seen = {0: 0, -1: 0, -2: 0, -4: 0, -5: 0, -6: 0}
+        seen = {0: 0, -1: 0, -2: 0, -4: 0, -5: 0, -6: 0, -7: 0}
         for seed in range(6000):
             maker = Maker(seed)
             text = maker.text()
             most = maker.one(1048576, 1048576, 5, 20)
             paths = [b"", *[maker.path() for place in range(4)]]
-            calls = [call for path in paths for call in (st_told(path, most), st_kind(path))]
-            given = ask(st_read(text), *calls)
+            given = first_answers(text, most, paths)
             self.assertEqual(given, second_answers(text, most, paths), (seed, text, paths))
             for answer in given:
                 seen[min(answer[0], 0)] += 1
@@ -395,6 +428,8 @@ class SecondReading(unittest.TestCase):
             self.assertGreater(count, 300, answer)
 
     def test_long_texts_that_can_be(self):
+        # How many whole and how many real numbers were found.
+        self.found = [0, 0]
         for seed in range(60):
             maker = Maker(seed)
             text = b""
@@ -404,6 +439,19 @@ class SecondReading(unittest.TestCase):
                 self.assertEqual(given, second_answers(longer, 1048576, [b""])[:2], (seed, longer))
                 if given[0] == [0]:
                     text = longer
+            self.check_all_paths(text)
+        self.assertGreater(min(self.found), 100)
+
+    def check_all_paths(self, text):
+        """Asks for every value of text by a path of its own."""
+        paths = [b".".join(keys) for keys in all_ways(whole_of(text))]
+        expected = second_answers(text, 1048576, paths)
+        self.assertEqual(first_answers(text, 1048576, paths), expected, text)
+        # All five calls at each path: st_whole's and st_real's are the last two.
+        for start in range(1, len(expected), 5):
+            self.assertGreaterEqual(expected[start + 2][0], 0)
+            self.found[0] += len(expected[start + 3]) - 1
+            self.found[1] += len(expected[start + 4]) - 1
 
 
 if __name__ == "__main__":
